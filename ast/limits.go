@@ -108,8 +108,8 @@ func (c Class) rightArg() bool {
 	case api.Deferred:
 		return wholeIn(c.Arg, 1) && upTo(c.Arg, longest)
 	}
-	// What isn't right counts as 0, so that who makes a class need not name what it does not have.
-	return rat.Sign(c.Arg) == 0
+	// What isn't right counts as 0 to layer 4, but is none: a line without an argument is read back as the right 0 alone.
+	return wholeIn(c.Arg, 1) && upTo(c.Arg, 0)
 }
 
 // right asks a year's number alone: what is in the year comes later.

@@ -69,6 +69,7 @@ func breaches() []breach {
 		set(4, 4*at, func(f *ast.Filing) { f.Classes[4*at].Kind = 12 })
 		set(4, 3+at, func(f *ast.Filing) { f.Classes[3+at].Arg = of(200_001, 200) })
 		set(4, 5*at+1-at/2, func(f *ast.Filing) { f.Classes[5*at+1-at/2].Arg = of(1, 1) })
+		set(4, 5*at, func(f *ast.Filing) { f.Classes[5*at].Arg = rat.Rat{} })
 		set(5, at, func(f *ast.Filing) { f.Entities[at] = "" })
 		set(6, at, func(f *ast.Filing) { f.Years[at].Number = 10_000 * (at % 2) })
 	}
@@ -320,17 +321,13 @@ func TestArguments(t *testing.T) {
 	}
 }
 
-// TestWrongArguments: what is not right counts as 0 where an argument says nothing, and is no number anywhere else.
+// TestWrongArguments: what is not right is no argument of any kind, not even of one that has none but 0.
 func TestWrongArguments(t *testing.T) {
 	f := right()
 	for _, x := range wrong() {
 		for kind := api.Income; kind <= api.Distribution; kind++ {
 			f.Classes[9] = ast.Class{Name: "c", Kind: kind, Arg: x}
-			want, e := ast.Place{}, api.OK
-			if kind == api.Denied || kind == api.Capped || kind == api.Deferred {
-				want, e = ast.Place{Part: 4, Year: -1, At: 9}, api.ErrArg
-			}
-			checkRight(t, f, want, e, "a class", kind, x)
+			checkRight(t, f, ast.Place{Part: 4, Year: -1, At: 9}, api.ErrArg, "a class", kind, x)
 		}
 	}
 }

@@ -2,13 +2,16 @@ package print_test
 
 import (
 	"math/rand/v2"
+	"reflect"
 	"strings"
 	"testing"
 
 	"tallage/api"
 	"tallage/ast"
+	"tallage/big"
 	"tallage/parse"
 	"tallage/print"
+	"tallage/rat"
 )
 
 // P10.4
@@ -33,6 +36,75 @@ func TestPrintedAndParsed(t *testing.T) {
 		s, _ := print.Print(f)
 		if len(s) <= api.MaxBytes && !ast.Same(parsed(t, s), f) {
 			t.Fatalf("%q is not parsed as it was", s)
+		}
+	}
+}
+
+// fractions are all of a value's, which may be set.
+func fractions(v reflect.Value) []reflect.Value {
+	l := []reflect.Value{}
+	switch {
+	case v.Type() == reflect.TypeFor[rat.Rat]():
+		l = append(l, v)
+	case v.Kind() == reflect.Struct:
+		for i := range v.NumField() {
+			l = append(l, fractions(v.Field(i))...)
+		}
+	case v.Kind() == reflect.Slice:
+		for i := range v.Len() {
+			l = append(l, fractions(v.Index(i))...)
+		}
+	}
+	return l
+}
+
+// TestEachFraction lays fractions of all sorts in each place of a filing: whatever is printed is parsed as it was.
+func TestEachFraction(t *testing.T) {
+	f := full()
+	printed := map[bool]int{}
+	all := append(wrong(), of("0"), of("1"), of("2"), of("40"), of("41"), of("-1"), of("1/2"), of("1/3"), of("-1/8"), of("0.01"), of("0.001"), of("0.000001"), of("0.0000001"), of("1e30"))
+	for i, v := range fractions(reflect.ValueOf(&f).Elem()) {
+		was := v.Interface()
+		for _, x := range all {
+			v.Set(reflect.ValueOf(x))
+			s, e := print.Print(f)
+			printed[e == api.OK]++
+			switch {
+			case e != api.OK && s != "":
+				t.Fatalf("fraction %d, %v: error %d, and %q", i, x, e, s)
+			case e == api.OK && !ast.Same(parsed(t, s), f):
+				t.Fatalf("fraction %d, %v: %q is not parsed as it was", i, x, s)
+			}
+		}
+		v.Set(reflect.ValueOf(was.(rat.Rat)))
+	}
+	if printed[true] == 0 || printed[false] == 0 {
+		t.Fatal(printed)
+	}
+}
+
+// TestAlikeTexts: of classes whose lines have no argument, one is printed, for the line can't tell one argument from another one.
+func TestAlikeTexts(t *testing.T) {
+	zeros := []rat.Rat{of("0"), {Num: big.Int{Mag: []uint32{}}, Den: big.Int{Mag: []uint32{1}}}}
+	for kind, word := range classKinds {
+		c := ast.Class{Name: "c", Kind: uint8(kind)}
+		if c.Kind < api.Income || c.Kind >= api.Denied && c.Kind <= api.Deferred {
+			continue
+		}
+		f := short()
+		for _, x := range append(wrong(), of("1"), of("-1"), of("1/2")) {
+			c.Arg = x
+			f.Classes = []ast.Class{c}
+			checkPrint(t, f, "", api.ErrArg)
+		}
+		for _, x := range zeros {
+			c.Arg = x
+			f.Classes = []ast.Class{c}
+			s := shortText + "class c " + word + "\n"
+			checkPrint(t, f, s, api.OK)
+			if !ast.Same(parsed(t, s), f) {
+				t.Fatalf("%q is not parsed as it was", s)
+			}
 		}
 	}
 }

@@ -172,15 +172,18 @@ func TestEachPart(t *testing.T) {
 	checkPrint(t, f, strings.NewReplacer("back 1", "back 0", "forward 5", "forward 0", "0.00 5", "0.00 40").Replace(shortText)+"class a distribution\nentity z\n", api.OK)
 }
 
-// TestZeroValuesOfArguments: an argument that counts as 0 is as good as none.
-func TestZeroValuesOfArguments(t *testing.T) {
-	f := full()
-	for i := range f.Classes {
-		if k := f.Classes[i].Kind; k < api.Denied || k > api.Deferred {
-			f.Classes[i].Arg = rat.Rat{}
+// TestWrongArguments: what is not right is no argument, whether or not the class's line has one.
+func TestWrongArguments(t *testing.T) {
+	for i := range full().Classes {
+		for _, x := range wrong() {
+			f := full()
+			f.Classes[i].Arg = x
+			if p, e := ast.Right(f); p != (ast.Place{Part: 4, Year: -1, At: i}) || e != api.ErrArg {
+				t.Fatalf("class %d, argument %v: %v, error %d", i, x, p, e)
+			}
+			checkPrint(t, f, "", api.ErrArg)
 		}
 	}
-	checkPrint(t, f, all, api.OK)
 }
 
 // TestErrors: what is not right has no text, but ast.Right's error.
